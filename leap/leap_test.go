@@ -125,6 +125,9 @@ func TestParse(t *testing.T) {
 	if x, _, e := leap.Parse("2017-01-15 0\nexpires 2017-01-16"); e != api.OK || x.Leaps[0] != (api.Leap{Day: day("2017-01-15"), Offset: 0}) {
 		t.Error(x, e)
 	}
+	if _, _, e := leap.Parse("9999-12-30 36\nexpires 9999-12-31"); e != api.OK {
+		t.Error("the last day but one", e)
+	}
 	long := example + "#" + strings.Repeat("x", 8192-1-len(example))
 	if _, _, e := leap.Parse(long); e != api.OK {
 		t.Error("8192 bytes", e)

@@ -91,6 +91,9 @@ func TestUTCErrs(t *testing.T) {
 			t.Error(n, u, e)
 		}
 	}
+	if u, e := scale.UTC(parse(t, "1972-01-01 0\nexpires 2026-12-28"), api.MinNano); u != (api.UTC{}) || e != api.ErrRange {
+		t.Error(u, e)
+	}
 	// Behind the beginning that days are held at there is nothing for the first Offset's seconds.
 	if u, e := scale.UTC(x, api.MinNano+36*api.Second-1); u != (api.UTC{}) || e != api.ErrRange {
 		t.Error(u, e)
