@@ -55,6 +55,13 @@ func TestSend(t *testing.T) {
 			t.Error(milli, s, e)
 		}
 	}
+	c.Raise(500)
+	c.Hear(300, st(300, api.MaxCount-1))
+	if s, e := c.Send(5); s != st(300, api.MaxCount) || e != api.OK {
+		t.Error("the greatest count", s, e)
+	}
+	c, _ = hlc.New(0)
+	c.Raise(100)
 	c.Hear(300, st(300, api.MaxCount))
 	if s, e := c.Send(5); s != st(0, 0) || e != api.ErrOverflow || c.Last() != st(300, api.MaxCount) {
 		t.Error("overflow ahead of the bound", s, e)

@@ -114,6 +114,9 @@ func TestHearErrs(t *testing.T) {
 	if e := c.Hear(0, 1000, encoded(t, packet.Packet{Mode: 4, Stratum: 1, Origin: 1, Receive: 1, Transmit: 1})); e != api.ErrOrigin {
 		t.Error("without a question", e)
 	}
+	if e := c.Hear(0, 1000, encoded(t, packet.Packet{Mode: 4, Stratum: 1, Receive: 1, Transmit: 1})); e != api.ErrOrigin {
+		t.Error("no number is none", e)
+	}
 	good := ask(t, c, 0, 0, start, start)
 	change := func(f func(p *packet.Packet)) []byte {
 		p := good
@@ -148,6 +151,7 @@ func TestHearErrs(t *testing.T) {
 		{func(p *packet.Packet) { p.Transmit = stamp(start + sec) }, api.ErrRange},
 		{func(p *packet.Packet) { p.Receive, p.Transmit = stale(), stale() }, api.ErrStale},
 		{func(p *packet.Packet) { p.Transmit = stale() }, api.ErrStale},
+		{func(p *packet.Packet) { p.Receive = stale() }, api.ErrStale},
 	} {
 		good = ask(t, c, 0, 0, start, start)
 		b := change(x.f)
@@ -191,7 +195,7 @@ func TestSamples(t *testing.T) {
 	}{{0, 0, api.OK}, {0, 1, api.ErrRange}, {16 * sec, 0, api.OK}, {16*sec + 1, 0, api.ErrRange}, {20 * sec, 4 * sec, api.OK}, {3 * sec, sec, api.OK}} {
 		c := client(t, 3)
 		p := ask(t, c, 1, 0, start, start+x.held)
-		p.RootError, p.RootDelay = 65537, 7
+		p.RootError, p.RootDelay, p.Stratum = 65537, 7, 15
 		if e := c.Hear(1, x.delay, encoded(t, p)); e != x.want {
 			t.Error(x, e)
 			continue
@@ -269,6 +273,10 @@ func TestBeyond(t *testing.T) {
 	p := ask(t, c, 0, 0, start, start)
 	if e := c.Hear(0, math.MaxInt, encoded(t, p)); e != api.ErrRange {
 		t.Error(e)
+	}
+	p = ask(t, c, 0, math.MaxInt, start, start)
+	if e := c.Hear(0, math.MaxInt, encoded(t, p)); e != api.ErrRange {
+		t.Error("asked there, too", e)
 	}
 }
 

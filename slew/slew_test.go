@@ -73,6 +73,14 @@ func TestTurn(t *testing.T) {
 	if n := c.Read(9000000); n != 9000000 || c.Left() != 0 {
 		t.Error(n)
 	}
+	for _, behind := range []int{0, api.Second} {
+		c = made(t, 0, 0)
+		c.Turn(0, 700)
+		c.Turn(1000000, behind)
+		if n := c.Read(1000000); n != 1000500+behind || c.Left() != 0 {
+			t.Error("what was left is turned up to the count first", n, c.Left())
+		}
+	}
 	c = made(t, 0, 1000)
 	c.Turn(0, 77)
 	if step, e := c.Turn(5, api.Second); !step || e != api.OK || c.Left() != 0 || c.Read(5) != 1005+api.Second {

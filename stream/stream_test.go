@@ -95,8 +95,8 @@ func TestNeed(t *testing.T) {
 	if !o.Ack(6) || o.Acked() != 6 || o.Ack(6) || o.Ack(5) {
 		t.Error("an Ack")
 	}
-	need(7, 0, false)
 	for range api.Again {
+		need(7, 0, false)
 		o.Tick()
 	}
 	need(7, 7, true)

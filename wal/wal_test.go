@@ -233,6 +233,18 @@ func TestAppend(t *testing.T) {
 	}
 }
 
+// P13.2: a segment of just so many bytes is full.
+func TestSegBytes(t *testing.T) {
+	for _, less := range []int{0, 1} {
+		l := open(t, made(t, 100000))
+		l.Append(make([]byte, api.SegBytes-13-less))
+		l.Append(nil)
+		if len(l.Names()) != 2-less {
+			t.Error(less, l.Names())
+		}
+	}
+}
+
 func TestFullAndDead(t *testing.T) {
 	d := made(t, 60)
 	l := open(t, d)

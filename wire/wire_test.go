@@ -25,6 +25,7 @@ func words() []wire.Word {
 		{Kind: wire.Records, Origin: 2, Seq: 7, Records: row(2, 7, 3)},
 		{Kind: wire.Records, Origin: 0, Seq: 1, Records: row(0, 1, api.MaxQueue)},
 		{Kind: wire.Ack, Origin: 1, Seq: 5},
+		{Kind: wire.Records, Origin: 4, Seq: 1 << 40, Records: row(4, 1<<40, 1)},
 		{Kind: wire.Ack, Origin: api.MaxNodes - 1},
 		{Kind: wire.Ack, Seq: 1 << 40, Records: []api.Record{}},
 		{Kind: wire.Beat, Origin: 1, Seq: 9, Stamp: api.Stamp{Milli: 300, Count: 2}, Floor: api.Stamp{Milli: 1, Count: 4}},
@@ -54,7 +55,7 @@ func TestBytes(t *testing.T) {
 	}{
 		{words()[2], []byte{2, 1, 5}},
 		{words()[0], octet.Join([]byte{1, 2, 7}, list)},
-		{words()[5], []byte{3, 1, 9, 0xac, 2, 2, 1, 4}},
+		{words()[6], []byte{3, 1, 9, 0xac, 2, 2, 1, 4}},
 	} {
 		b, e := wire.Encode(c.w)
 		p, f := frame.One(b)
@@ -91,14 +92,14 @@ func TestNoWords(t *testing.T) {
 		change(2, func(w *wire.Word) { w.Seq = 1<<40 + 1 }),
 		change(2, func(w *wire.Word) { w.Origin = -1 }),
 		change(2, func(w *wire.Word) { w.Origin = api.MaxNodes }),
-		change(5, func(w *wire.Word) { w.Records = row(1, 9, 1) }),
-		change(5, func(w *wire.Word) { w.Seq = -1 }),
-		change(5, func(w *wire.Word) { w.Seq = 1<<40 + 1 }),
-		change(5, func(w *wire.Word) { w.Origin = api.MaxNodes }),
-		change(5, func(w *wire.Word) { w.Stamp.Milli = -1 }),
-		change(5, func(w *wire.Word) { w.Stamp.Count = api.MaxCount + 1 }),
-		change(5, func(w *wire.Word) { w.Floor.Milli = api.MaxMilli + 1 }),
-		change(5, func(w *wire.Word) { w.Floor.Count = -1 }),
+		change(6, func(w *wire.Word) { w.Records = row(1, 9, 1) }),
+		change(6, func(w *wire.Word) { w.Seq = -1 }),
+		change(6, func(w *wire.Word) { w.Seq = 1<<40 + 1 }),
+		change(6, func(w *wire.Word) { w.Origin = api.MaxNodes }),
+		change(6, func(w *wire.Word) { w.Stamp.Milli = -1 }),
+		change(6, func(w *wire.Word) { w.Stamp.Count = api.MaxCount + 1 }),
+		change(6, func(w *wire.Word) { w.Floor.Milli = api.MaxMilli + 1 }),
+		change(6, func(w *wire.Word) { w.Floor.Count = -1 }),
 	} {
 		if b, e := wire.Encode(w); len(b) != 0 || e != api.ErrArg {
 			t.Error(i, e)
