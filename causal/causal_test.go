@@ -81,6 +81,11 @@ func TestWrites(t *testing.T) {
 			t.Error(i, g)
 		}
 	}
+	e := dead(put(0, "k", "w", 6, st(0, 0), st(8, 8)))
+	e.Answer.Stamp = st(8, 8)
+	if l := causal.Writes([]causal.Event{e}); len(l) != 1 || !l[0].Unsure || l[0].V.Stamp != st(0, 0) {
+		t.Error("a stamp that was told beside an error", l)
+	}
 	if len(causal.Writes(nil)) != 0 {
 		t.Error("nothing")
 	}
@@ -109,6 +114,7 @@ func TestNewest(t *testing.T) {
 		{[]causal.Write{w("k", "b", st(6, 0), 0), w("k", "a", st(5, 0), 0)}, st(9, 0), "b", false},
 		{[]causal.Write{w("k", "b", st(6, 0), 0), w("k", "a", st(5, 0), 0)}, st(5, 9), "a", false},
 		{[]causal.Write{w("k", "b", st(6, 0), 1), w("k", "c", st(6, 0), 3), w("k", "a", st(6, 0), 2)}, st(9, 0), "c", false},
+		{[]causal.Write{w("k", "first", st(6, 0), 1), w("k", "second", st(6, 0), 1)}, st(9, 0), "first", false},
 		{[]causal.Write{w("k", "a", st(5, 0), 0), gone}, st(9, 0), "", true},
 		{[]causal.Write{w("k", "a", st(5, 0), 0), gone}, st(6, 9), "a", false},
 		{[]causal.Write{short}, st(7, 9), "s", false},
@@ -209,6 +215,9 @@ func TestCheckScans(t *testing.T) {
 		}
 		check(t, strconv.Itoa(i), want, append(l[:len(l):len(l)], c.e)...)
 	}
+	falling := []causal.Event{l[2], l[1], l[0], l[4]}
+	check(t, "keys in any order", 4, append(falling, scan(1, 3, "", "", 9, "l=b", "m=c"))...)
+	check(t, "keys in any order", -1, append(falling, scan(1, 3, "", "", 2, "k=a", "l=b"))...)
 	unsure := append(l[:len(l):len(l)], dead(put(2, "lx", "u", 0, z, z)), dead(del(2, "l", z)))
 	check(t, "unsure", -1, append(unsure, scan(1, 3, "", "", 9, "k=a", "lx=u", "m=c"), scan(1, 3, "", "", 9, "k=a", "l=b", "m=c"))...)
 }
@@ -291,9 +300,10 @@ func TestNothingIsShared(t *testing.T) {
 	if string(l[0].Step.Value) != "abc" {
 		t.Error("shared")
 	}
+	w = append(w, causal.Write{Key: "k", V: api.Version{Value: []byte("def")}, Unsure: true})
 	values, _ := causal.Newest(w, "k", st(9, 0))
-	values[0][1] = 'y'
-	if string(w[0].V.Value) != "xbc" {
+	values[0][1], values[1][1] = 'y', 'y'
+	if string(w[0].V.Value) != "xbc" || string(w[1].V.Value) != "def" {
 		t.Error("shared")
 	}
 }

@@ -154,10 +154,14 @@ func TestOpenErrs(t *testing.T) {
 	for i, b := range [][]byte{nil, {1}, framed(), framed(1, 2), framed(api.MaxMilli + 1), append(framed(1), 0)} {
 		d := made(t, 1000)
 		ok(t, d.Write("bound", b))
-		ok(t, d.Write("mage", nil))
 		if n, e := node.Open(0, 1, d, table(), 1, 0); n != nil || e != api.ErrForm {
 			t.Error(i, e)
 		}
+	}
+	x := made(t, 1000)
+	ok(t, x.Write("mage", nil))
+	if n, e := node.Open(0, 1, x, table(), 1, 0); n != nil || e != api.ErrForm {
+		t.Error("chapter 16's error", e)
 	}
 	ok(t, d.Write("mx", nil))
 	d.Fuse(0)
@@ -290,6 +294,9 @@ func TestPutErrs(t *testing.T) {
 	if _, e := n.Put(zero, "", nil, 0); e != api.ErrArg {
 		t.Error(e)
 	}
+	if _, e := n.Put(st(-1, 0), "k", nil, 0); e != api.ErrArg {
+		t.Error(e)
+	}
 	if _, e := n.Del(zero, "k"); e != api.ErrFull {
 		t.Error(e)
 	}
@@ -368,8 +375,8 @@ func TestDel(t *testing.T) {
 	a := put(t, n, zero, "a", "1")
 	put(t, n, zero, "b", "2")
 	many := strings.Split("abcdefghijklmnopq", "")
-	for i, keys := range [][]string{nil, many, {"a", ""}, {"a", strings.Repeat("k", 65)}, {"a", "b", "a"}} {
-		if s, e := n.Del(st(-1, 0), keys...); s != zero || e != api.ErrArg || n.Left() != 2 {
+	for i, keys := range [][]string{nil, many, {"a", ""}, {"a", strings.Repeat("k", 65)}, {"a", "b", "a"}, {"a", "a"}} {
+		if s, e := n.Del(zero, keys...); s != zero || e != api.ErrArg || n.Left() != 2 {
 			t.Error(i, s, e)
 		}
 	}
@@ -378,6 +385,9 @@ func TestDel(t *testing.T) {
 	}
 	if s, e := n.Del(st(api.MaxDrift+1, 0), "a"); s != zero || e != api.ErrDrift {
 		t.Error(s, e)
+	}
+	if _, e := open(t, 0, 1, made(t, 9999)).Del(zero, strings.Repeat("k", 64)); e != api.OK {
+		t.Error("a long key", e)
 	}
 	s, e := n.Del(a, many[:16]...)
 	if s != st(0, a.Count+17) || e != api.OK || n.Left() != 18 {

@@ -51,6 +51,35 @@ func TestHearNothing(t *testing.T) {
 	}
 }
 
+// P23.4: an Ack of somebody else's records; a Beat in another one's name.
+func TestHearOthers(t *testing.T) {
+	n := open(t, 0, 2, made(t, 100000))
+	put(t, n, zero, "own", "v")
+	n.Tick(0)
+	n.Hear(say(t, 1, 0, wire.Word{Kind: wire.Ack, Origin: 1, Seq: 1}))
+	if n.Left() != 1 {
+		t.Error("an Ack of other records")
+	}
+	n.Hear(say(t, 1, 0, wire.Word{Kind: wire.Ack, Origin: 0, Seq: 1}))
+	if n.Left() != 0 || len(n.Store().Kept(0, 9)) != 0 {
+		t.Error("an Ack")
+	}
+	n = open(t, 0, 3, made(t, 100000))
+	n.Tick(100 * milli)
+	n.Hear(say(t, 1, 0, wire.Word{Kind: wire.Beat, Origin: 1, Stamp: st(3, 0)}))
+	n.Hear(say(t, 2, 0, wire.Word{Kind: wire.Beat, Origin: 2, Stamp: st(4, 0)}))
+	n.Hear(say(t, 1, 0, wire.Word{Kind: wire.Beat, Origin: 2, Stamp: st(8, 0)}))
+	n.Hear(say(t, 2, 0, wire.Word{Kind: wire.Beat, Origin: 1, Stamp: st(9, 0)}))
+	n.Hear(say(t, 2, 0, wire.Word{Kind: wire.Beat, Origin: 0, Stamp: st(9, 0)}))
+	if n.Stable() != st(3, 0) {
+		t.Error(n.Stable())
+	}
+	row := []api.Record{record(2, 1, "k", "v", st(7, 0))}
+	if l := n.Hear(say(t, 1, 0, wire.Word{Kind: wire.Records, Origin: 2, Seq: 1, Records: row})); len(l) != 0 {
+		t.Error(l)
+	}
+}
+
 // P23.4: records, once each and in order; what is answered.
 func TestHearRecords(t *testing.T) {
 	d := made(t, 100000)
@@ -268,6 +297,34 @@ func TestTickTidies(t *testing.T) {
 	}
 }
 
+// P23.5: the store is written anew behind more than 64 entries; if it can't be, all goes on.
+func TestTickCompacts(t *testing.T) {
+	n := open(t, 0, 2, made(t, 1000000))
+	for range 64 {
+		put(t, n, zero, "k", "v")
+	}
+	n.Tick(milli)
+	if age, entries := n.Store().Age(); age != 0 || entries != 64 {
+		t.Error(age, entries)
+	}
+	n.Hear(say(t, 1, 0, wire.Word{Kind: wire.Records, Origin: 1, Seq: 1, Records: []api.Record{record(1, 1, "k", "v", st(1, 0))}}))
+	n.Tick(milli)
+	if age, entries := n.Store().Age(); age != 1 || entries != 0 {
+		t.Error(age, entries)
+	}
+	n = open(t, 0, 1, made(t, 10000000))
+	for i := range 300 {
+		put(t, n, zero, "k"+strconv.Itoa(i), string(make([]byte, api.MaxValue)))
+	}
+	for range 3 {
+		n.Tick(milli)
+	}
+	if age, entries := n.Store().Age(); age != 0 || entries < 300 || n.Down() {
+		t.Error("too long to be written anew", age, entries, n.Down())
+	}
+	put(t, n, zero, "k", "v")
+}
+
 // P23.5: an error of the disk within a Tick.
 func TestTickDown(t *testing.T) {
 	for fuse := range 20 {
@@ -279,9 +336,8 @@ func TestTickDown(t *testing.T) {
 		d.Fuse(fuse)
 		n.Tick(2000 * milli)
 		d.Fuse(-1)
-		again := len(n.Tick(milli)) // a single place sends nothing, down or not
 		age, _ := n.Store().Age()
-		if again != 0 || n.Down() != (age == 0) {
+		if n.Down() != (age == 0) {
 			t.Error(fuse, n.Down(), age)
 		}
 		if n.Down() {
@@ -292,12 +348,16 @@ func TestTickDown(t *testing.T) {
 			}
 		}
 	}
-	d := made(t, 100000)
-	n := open(t, 0, 2, d)
-	put(t, n, zero, "k", "v")
-	d.Fuse(0)
-	if l := n.Tick(2000 * milli); len(l) != 0 || !n.Down() {
-		t.Error("a Tick that meets it tells nothing", l)
+	for _, fuse := range []int{0, 1, 2, 3, 4} { // the bound, the mark
+		d := made(t, 100000)
+		n := open(t, 0, 2, d)
+		put(t, n, zero, "k", "v")
+		n.Hear(say(t, 1, 0, wire.Word{Kind: wire.Beat, Origin: 1, Stamp: st(500, 0), Floor: st(500, 0)}))
+		n.Hear(say(t, 1, 0, wire.Word{Kind: wire.Records, Origin: 1, Seq: 1, Records: []api.Record{record(1, 1, "k", "v", st(501, 0))}}))
+		d.Fuse(fuse)
+		if l := n.Tick(2000 * milli); len(l) != 0 || !n.Down() {
+			t.Error("a Tick that meets it tells nothing", fuse, l)
+		}
 	}
 }
 

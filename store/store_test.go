@@ -252,6 +252,7 @@ func TestAllsThatCouldNotBe(t *testing.T) {
 		{allOf{applied: []int{0, 0, 0}}, api.ErrForm},
 		{allOf{keys: octet.Join(nums(1), keyRows("k", rows(2, v("k", 1, 0, 5), v("k", 1, 0, 6))))}, api.OK},
 		{allOf{keys: octet.Join(nums(1), keyRows("k", rows(2, v("k", 1, 0, 5), v("k", 1, 1, 5))))}, api.OK},
+		{allOf{keys: octet.Join(nums(1), keyRows("k", rows(2, v("k", 1, 0, 0), v("k", 1, 1, 0))))}, api.OK},
 		{allOf{keys: octet.Join(nums(1), keyRows("k", rows(2, v("k", 1, 1, 5), v("k", 1, 0, 5))))}, api.ErrForm},
 		{allOf{keys: octet.Join(nums(1), keyRows("k", rows(2, v("k", 1, 0, 5), v("k", 1, 0, 5))))}, api.ErrForm},
 		{allOf{keys: octet.Join(nums(1), keyRows("k", rows(2, v("k", 1, 0, 6), v("k", 1, 0, 5))))}, api.ErrForm},
@@ -355,17 +356,34 @@ func TestPut(t *testing.T) {
 	}
 }
 
-// P16.2, P16.5: an error of the disk, and the store is dead.
+// P16.2, P16.5: an error of the disk, and the store is dead; how many things each call does there.
 func TestDead(t *testing.T) {
-	for n := range 2 {
-		for _, act := range []func(s *store.Store) api.Errno{
-			func(s *store.Store) api.Errno { return s.Put(record(0, 2, "k", "b", st(6, 0))) },
-			func(s *store.Store) api.Errno { _, e := s.Trim(st(5, 5)); return e },
-			func(s *store.Store) api.Errno { return s.Compact() },
-		} {
+	for _, x := range []struct {
+		cost int
+		act  func(s *store.Store) api.Errno
+	}{
+		{2, func(s *store.Store) api.Errno { return s.Put(record(0, 2, "k", "b", st(6, 0))) }},
+		{2, func(s *store.Store) api.Errno { _, e := s.Trim(st(5, 5)); return e }},
+		// Two files that are in the way; the log; the age's file; two files of the elder log.
+		{2 + 2 + 4 + 2, func(s *store.Store) api.Errno { return s.Compact() }},
+	} {
+		act := x.act
+		for n := range x.cost + 1 {
 			d := made(t, 100000)
 			s := open(t, d)
-			ok(t, s.Put(record(0, 1, "k", "a", st(5, 0))))
+			first := record(0, 1, "k", strings.Repeat("a", api.MaxValue), st(5, 0))
+			ok(t, s.Put(first))
+			ok(t, s.Put(record(1, 1, "k", "a", st(5, 0))))
+			for _, name := range []string{"m1.00000001", "m1.x", "mage~"} {
+				ok(t, d.Write(name, []byte("in the way")))
+			}
+			if n == x.cost {
+				d.Fuse(n)
+				if e := act(s); e != api.OK || d.Sync("mage") != api.ErrDead {
+					t.Error(n, e, "more or less is done")
+				}
+				continue
+			}
 			before, keeps := tells(s), kept(s)
 			d.Fuse(n)
 			if e := act(s); e != api.ErrDead {
@@ -376,7 +394,7 @@ func TestDead(t *testing.T) {
 				t.Error("not dead")
 			}
 			age, entries := s.Age()
-			if tells(s) != before || kept(s) != keeps || age != 0 || entries != 1 {
+			if tells(s) != before || kept(s) != keeps || age != 0 || entries != 2 {
 				t.Error(n, "something is changed", age, entries)
 			}
 		}
@@ -498,11 +516,13 @@ func TestKeptAndCompact(t *testing.T) {
 			t.Error(c, got)
 		}
 	}
-	s.Forget(0)
-	s.Forget(4)
-	s.Forget(2)
-	if got := seqs(0, 2); got != "5 6" {
-		t.Error(got)
+	for _, c := range []struct {
+		upto int
+		want string
+	}{{math.MinInt, "1 2"}, {0, "1 2"}, {4, "5 6"}, {2, "5 6"}, {4, "5 6"}} {
+		if s.Forget(c.upto); seqs(0, 2) != c.want {
+			t.Error(c, seqs(0, 2))
+		}
 	}
 	if n := len(open(t, d.Copy()).Kept(0, 99)); n != 10 {
 		t.Error("nothing was written", n)
@@ -571,6 +591,7 @@ func TestCompactErrLong(t *testing.T) {
 	s.Forget(100)
 	ok(t, s.Compact())
 	ok(t, s.Put(record(0, 131, "k", value, st(131, 0))))
+	atTheLimit(t)
 
 	d = made(t, 10000)
 	b, _ := frame.Encode(nums(1 << 40))
@@ -582,6 +603,63 @@ func TestCompactErrLong(t *testing.T) {
 		t.Error(e)
 	}
 	ok(t, s.Put(record(0, 1, "k", "v", st(1, 0))))
+}
+
+// atTheLimit writes anew what an entry just has room for, and a byte more.
+func atTheLimit(t *testing.T) {
+	t.Helper()
+	filled := func(last int) (*disk.Disk, *store.Store) {
+		d := made(t, 10000000)
+		s := open(t, d)
+		for n := 1; n <= 250; n++ {
+			ok(t, s.Put(record(0, n, "k"+strconv.Itoa(n), strings.Repeat("v", api.MaxValue), st(n, 0))))
+		}
+		ok(t, s.Put(record(0, 251, "z", strings.Repeat("v", last), st(251, 0))))
+		s.Forget(251)
+		return d, s
+	}
+	d, s := filled(200)
+	ok(t, s.Compact())
+	b, _ := d.Read("m1.00000001")
+	last := 200 + api.MaxFrame - 10 - (len(b) - 13) // a record has 12 bytes more, and the entry's number
+	if last > api.MaxValue {
+		t.Fatal(last)
+	}
+	_, s = filled(last)
+	if e := s.Compact(); e != api.OK {
+		t.Error(e)
+	}
+	_, s = filled(last + 1)
+	if e := s.Compact(); e != api.ErrLong || s.Put() != api.OK {
+		t.Error(e)
+	}
+}
+
+// P16.4: a key without a version is no more, till somebody writes it.
+func TestKeysComeAgain(t *testing.T) {
+	s := open(t, made(t, 100000))
+	ok(t, s.Put(api.Record{Origin: 0, Seq: 1, Key: "k", V: api.Version{Stamp: st(5, 0), Gone: true}}))
+	if n, e := s.Trim(st(6, 0)); n != 1 || e != api.OK {
+		t.Error(n, e)
+	}
+	if keys, n := s.Keys(); len(keys) != 0 || n != 0 {
+		t.Error(keys, n)
+	}
+	ok(t, s.Put(record(0, 2, "k", "again", st(7, 0))))
+	l, e := s.Scan("", "", st(7, 0), 9)
+	if keys, n := s.Keys(); !slices.Equal(keys, []string{"k"}) || n != 1 || len(l) != 1 || string(l[0].Value) != "again" || e != api.OK {
+		t.Error(keys, n, l, e)
+	}
+}
+
+// P16.1: an error of the log's Open.
+func TestOpenDead(t *testing.T) {
+	d := made(t, 100000)
+	ok(t, open(t, d).Put(record(0, 1, "k", "a", st(5, 0))))
+	d.Fuse(0)
+	if s, e := store.Open(d, "m", 0); s != nil || e != api.ErrDead {
+		t.Error(e)
+	}
 }
 
 // P16.6: crashes, wherever the fuse burnt, in Compact and in an Open, too; beside it a store that no power fails.

@@ -2,6 +2,7 @@ package tool_test
 
 import (
 	"math/rand"
+	"strconv"
 	"strings"
 	"testing"
 
@@ -134,6 +135,21 @@ func TestWorld(t *testing.T) {
 		"start 0", "16 0",
 		"put 0 0.0 k v 0", "1 0 at=1000.1",
 	)
+}
+
+// P27.1: a scan tells at most a hundred.
+func TestScanTellsAHundred(t *testing.T) {
+	var script strings.Builder
+	for i := range 120 {
+		script.WriteString("put 0 0.0 k" + strconv.Itoa(i) + " v 0\n")
+		if i%50 == 49 {
+			script.WriteString("rest 20\n")
+		}
+	}
+	got := tool.Run(script.String() + "rest 20\nsnap 0 0.0 100\nscan 0 0\n")
+	if n := strings.Count(got, "="); strings.Contains(got, "error") || n-strings.Count(got, "at=") != 100 {
+		t.Error(n, got)
+	}
 }
 
 // P27.1: the world has the table that there was at its first line.

@@ -327,6 +327,51 @@ func TestPowerSteps(t *testing.T) {
 	do(t, w, world.Step{Kind: world.StepPut, Key: "k"})
 }
 
+// The kinds of steps are numbers that scripts may have.
+func TestKinds(t *testing.T) {
+	for i, kind := range []int{world.StepPut, world.StepDel, world.StepSnap, world.StepGet, world.StepScan, world.StepClose, world.StepTick, world.StepGive, world.StepLose, world.StepTwice, world.StepLate, world.StepSpoil, world.StepAsk, world.StepReply, world.StepCrash, world.StepStart, world.StepFuse, world.StepRest} {
+		if kind != i+1 {
+			t.Error(i, kind)
+		}
+	}
+}
+
+// P24.2: a place that is down: its disk does not crash again, its oscillator stands.
+func TestDownStays(t *testing.T) {
+	w := made(t, 2)
+	do(t, w, world.Step{Kind: world.StepTick, Node: 1, N: 70 * milli})
+	do(t, w, world.Step{Kind: world.StepCrash, Node: 1})
+	if e := w.Disk(1).Write("x", []byte("not synced")); e != api.OK {
+		t.Fatal(e)
+	}
+	do(t, w, world.Step{Kind: world.StepCrash, Node: 1})
+	if b, _ := w.Disk(1).Read("x"); string(b) != "not synced" {
+		t.Error(b)
+	}
+	do(t, w, world.Step{Kind: world.StepRest, N: 20})
+	do(t, w, world.Step{Kind: world.StepStart, Node: 1})
+	do(t, w, world.Step{Kind: world.StepAsk, Node: 1})
+	do(t, w, world.Step{Kind: world.StepReply, Node: 1, M: start})
+	if s, _ := w.Node(1).Sample(0); s.Low != start+70*milli-1 {
+		t.Error(s.Low - start)
+	}
+}
+
+// P24.2: in a turn the first message is given first; times are whole milliseconds.
+func TestTurns(t *testing.T) {
+	w := made(t, 2)
+	do(t, w, world.Step{Kind: world.StepPut, Key: "k"})
+	do(t, w, world.Step{Kind: world.StepRest, N: 1})
+	if w.Node(0).Milli() != 10 || w.Node(1).Milli() != 10 || w.Node(1).Stable() != st(10, 0) || w.Node(0).Left() != 0 {
+		t.Error(w.Node(1).Milli(), w.Node(1).Stable())
+	}
+	do(t, w, world.Step{Kind: world.StepTick, N: 1000000 * milli})
+	do(t, w, world.Step{Kind: world.StepRest, N: 1})
+	if a, b := w.Node(0).Milli(), w.Node(1).Milli(); a != 1000020 || b != 1000020 {
+		t.Error(a, b)
+	}
+}
+
 // P24.2: rests.
 func TestRest(t *testing.T) {
 	w := made(t, 3)
