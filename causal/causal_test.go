@@ -218,6 +218,7 @@ func TestCheckScans(t *testing.T) {
 	falling := []causal.Event{l[2], l[1], l[0], l[4]}
 	check(t, "keys in any order", 4, append(falling, scan(1, 3, "", "", 9, "l=b", "m=c"))...)
 	check(t, "keys in any order", -1, append(falling, scan(1, 3, "", "", 2, "k=a", "l=b"))...)
+	check(t, "keys in any order", 4, append(falling, scan(1, 3, "", "", 1, "l=b"))...)
 	unsure := append(l[:len(l):len(l)], dead(put(2, "lx", "u", 0, z, z)), dead(del(2, "l", z)))
 	check(t, "unsure", -1, append(unsure, scan(1, 3, "", "", 9, "k=a", "lx=u", "m=c"), scan(1, 3, "", "", 9, "k=a", "l=b", "m=c"))...)
 }

@@ -348,6 +348,14 @@ func TestTickDown(t *testing.T) {
 			}
 		}
 	}
+	for fuse := range 3 { // the bound alone
+		d := made(t, 100000)
+		n := open(t, 0, 2, d)
+		d.Fuse(fuse)
+		if l := n.Tick(milli); len(l) != 0 || !n.Down() || n.Stable() != zero {
+			t.Error("a stamp without a bound that lasts", fuse, l)
+		}
+	}
 	for _, fuse := range []int{0, 1, 2, 3, 4} { // the bound, the mark
 		d := made(t, 100000)
 		n := open(t, 0, 2, d)
