@@ -605,6 +605,28 @@ func TestCompactErrLong(t *testing.T) {
 	ok(t, s.Put(record(0, 1, "k", "v", st(1, 0))))
 }
 
+// P16.5, P16.6: no room for the log of the next age, or for the age's file: the store is dead, and all is there behind it.
+func TestCompactFull(t *testing.T) {
+	for _, less := range []int{1, 14, 15, 40} {
+		d := made(t, 10000)
+		s := open(t, d)
+		ok(t, s.Put(record(0, 1, "k", "a", st(5, 0))))
+		before, keeps := tells(s), kept(s)
+		c := d.Copy()
+		ok(t, open(t, c).Compact())
+		need := c.Used() // the log of the next age, and the age's file
+		ok(t, d.Write("filler", make([]byte, 10000-d.Used()-need+less)))
+		if e := s.Compact(); e != api.ErrFull || s.Put() != api.ErrDead || tells(s) != before {
+			t.Error(less, e)
+		}
+		ok(t, d.Remove("filler"))
+		d.Crash(0, 0)
+		if s = open(t, d); tells(s) != before || kept(s) != keeps {
+			t.Error(less, tells(s))
+		}
+	}
+}
+
 // atTheLimit writes anew what an entry just has room for, and a byte more.
 func atTheLimit(t *testing.T) {
 	t.Helper()
