@@ -19,7 +19,7 @@ const allowed = " bytes cmp container/heap errors iter maps math math/bits slice
 // longest is how many lines a function may have.
 const longest = 60
 
-const packages = "octet cal leap scale era packet agree slew ntp hlc frame disk wal rec chain store wire stream net vec lease token node world causal trace tool"
+const packages = "octet cal leap scale era packet agree slew ntp hlc frame disk wal rec chain store wire stream net vec lease token node world causal trace tool anew"
 
 func sources(t *testing.T) []string {
 	t.Helper()
