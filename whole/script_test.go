@@ -123,7 +123,7 @@ func (p *play) some(k kinds) {
 			s.M, s.By = p.r.Int()>>p.r.Intn(60)-p.r.Intn(40)*sec, byte(p.r.Intn(32))
 		}
 	case world.StepCrash:
-		s.N, s.By = p.r.Intn(400), 0
+		s.N, s.By = p.r.Intn(400), byte(p.r.Intn(2)*p.r.Intn(256))
 	case world.StepFuse:
 		s.N = p.r.Intn(60)
 	case world.StepRest:
